@@ -1,0 +1,1 @@
+"""Pawlhall: wheels tied by ratios, differentials and ratchets."""

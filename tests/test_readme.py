@@ -1,0 +1,20 @@
+"""The examples of README.md do what it says."""
+
+import doctest
+import pathlib
+import unittest
+
+README = pathlib.Path(__file__).resolve().parent.parent / "README.md"
+
+
+class ReadmeTest(unittest.TestCase):
+    def test_examples(self):
+        text = README.read_text().replace("```", "")
+        examples = doctest.DocTestParser().get_doctest(text, {}, "README.md", str(README), 0)
+        result = doctest.DocTestRunner(verbose=False).run(examples)
+        self.assertEqual(result.failed, 0)
+        self.assertGreater(result.attempted, 0)
+
+
+if __name__ == "__main__":
+    unittest.main()
