@@ -1,8 +1,8 @@
-"""What counts as an integer, a fraction and a name, for values of any kind."""
+"""What counts as an integer, a fraction, a name and amounts of wheels, for values of any kind."""
 
 from math import gcd
 
-from pawlhall.errors import NoName, Twice
+from pawlhall.errors import NoName, NoWheel, Twice
 
 
 def is_int(value):
@@ -25,6 +25,13 @@ def is_name(value):
     return all(["a" <= letter <= "z" for letter in value])
 
 
+def is_amounts(value, wheels):
+    """Whether the value is a dictionary from some of the wheels to fractions."""
+    if not isinstance(value, dict):
+        return False
+    return all([name in wheels and is_fraction(value[name]) for name in value])
+
+
 def check_names(names):
     """Raise NoName with the first value that is not a name."""
     for name in names:
@@ -37,3 +44,10 @@ def check_distinct(names):
     for at, name in enumerate(names):
         if name in names[:at]:
             raise Twice(name)
+
+
+def check_wheels(names, wheels):
+    """Raise NoWheel with the first value that is not one of the wheels."""
+    for name in names:
+        if name not in wheels:
+            raise NoWheel(name)

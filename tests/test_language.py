@@ -34,6 +34,10 @@ STATEMENTS = (
     ast.Expr, ast.Assign, ast.AnnAssign, ast.ImportFrom, ast.FunctionDef, ast.ClassDef
 )
 
+ONCE = set("zip enumerate reversed range items keys values".split())
+
+ITERATING = set("list tuple dict sorted sum any all enumerate zip min max".split())
+
 NOWHERE = set(
     "register mro elements open input law version_info with_traceback add_note"
     " dataclass overload contextmanager namedtuple abstractmethod typing enum".split()
@@ -152,6 +156,67 @@ class CodeTest(unittest.TestCase):
         for place, node in nodes(ast.Raise):
             if node.exc is not None:
                 self.assertIsInstance(node.exc, ast.Call, place)
+
+    def test_no_local_name_hides_an_import_a_class_or_a_builtin(self):
+        for name, tree in trees():
+            taken = {node.name for node in ast.walk(tree) if isinstance(node, ast.ClassDef)}
+            for node in ast.walk(tree):
+                if isinstance(node, ast.ImportFrom):
+                    taken |= {one.name for one in node.names}
+            for node in ast.walk(tree):
+                if isinstance(node, ast.arg):
+                    self.assertNotIn(node.arg, taken | set(vars(builtins)), (name, node.lineno))
+                if isinstance(node, ast.Name) and isinstance(node.ctx, ast.Store):
+                    self.assertNotIn(node.id, taken, (name, node.lineno))
+
+    def test_every_import_is_used(self):
+        for name, tree in trees():
+            used = {node.id for node in ast.walk(tree) if isinstance(node, ast.Name)}
+            for node in tree.body:
+                if isinstance(node, ast.ImportFrom):
+                    self.assertLessEqual({one.name for one in node.names}, used, name)
+
+    def test_no_generator_expressions(self):
+        # With a class that has __eq__, "any" and the like take lists.
+        for place, node in nodes(ast.GeneratorExp):
+            self.fail(place)
+
+    def test_iterated_at_once(self):
+        for name, tree in trees():
+            good = set()
+            for node in ast.walk(tree):
+                if isinstance(node, (ast.For, ast.comprehension)):
+                    good.add(node.iter)
+                if isinstance(node, ast.Call) and isinstance(node.func, ast.Name):
+                    if node.func.id in ITERATING:
+                        good |= set(node.args)
+            for node in ast.walk(tree):
+                if isinstance(node, ast.Call) and node not in good:
+                    called = getattr(node.func, "id", getattr(node.func, "attr", ""))
+                    self.assertNotIn(called, ONCE, (name, node.lineno))
+
+    def test_stars_in_calls(self):
+        for place, node in nodes(ast.Call):
+            for one in node.args:
+                if isinstance(one, ast.Starred):
+                    self.assertIsInstance(one.value, (ast.Name, ast.Attribute), place)
+
+    def test_rows_of_exit(self):
+        for place, node in nodes(ast.FunctionDef):
+            if node.name == "__exit__":
+                self.assertEqual(len(node.args.args), 4, place)
+                for row in node.body:
+                    self.assertIsInstance(row, ast.Assign, place)
+                    self.assertIsInstance(row.value, ast.Attribute, place)
+
+    def test_no_name_is_a_method_and_an_attribute(self):
+        methods, attributes = set(), set()
+        for place, node in nodes(ast.ClassDef):
+            methods |= {one.name for one in node.body if isinstance(one, ast.FunctionDef)}
+        for place, node in nodes(ast.Attribute):
+            if isinstance(node.ctx, ast.Store):
+                attributes.add(node.attr)
+        self.assertFalse(methods & attributes)
 
 
 if __name__ == "__main__":

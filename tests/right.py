@@ -1,0 +1,245 @@
+"""What is right about motions, forces and answers, by sums and products of fractions.
+
+Nothing of this calls a function of the package; of halls it asks for wheels and parts, of
+parts for weights and is_pawl.
+"""
+
+from fractions import Fraction
+from math import gcd
+
+# One of each kind of value that "may be anything" speaks of.
+JUNK = [
+    None,
+    True,
+    False,
+    0,
+    1,
+    -1,
+    10**11,
+    "",
+    "a",
+    "drops",
+    "holds",
+    "between",
+    "never",
+    (),
+    (0, 1),
+    (1, 1),
+    ("drops",),
+    ("holds",),
+    ("drops", None),
+    ("holds", None),
+    ("never", None),
+    ("drops", []),
+    ("holds", {}),
+    ("holds", [], []),
+    ("holds", {}, {}),
+    ("between", [], [], []),
+    ("between", (), (), []),
+    ("between", None, None, None),
+    ("a", "b", "c", "d", "e"),
+    [],
+    [0],
+    [(0, 1)],
+    ["drops", {}],
+    {},
+    {"a": 1},
+    {"a": (2, 4)},
+    {1: (1, 1)},
+    {None: (1, 1)},
+    {("a",): (1, 1)},
+    {"zz": (1, 1)},
+]
+
+
+def is_fraction(value):
+    if not isinstance(value, tuple) or len(value) != 2:
+        return False
+    if any(not isinstance(one, int) or isinstance(one, bool) for one in value):
+        return False
+    return value[1] >= 1 and gcd(value[0], value[1]) == 1
+
+
+def number(value):
+    return Fraction(value[0], value[1])
+
+
+def written(value):
+    value = Fraction(value)
+    return (value.numerator, value.denominator)
+
+
+def sum_on(part, turns):
+    return sum(weight * number(turns[name]) for name, weight in part.weights.items())
+
+
+def satisfied(part, turns):
+    amount = sum_on(part, turns)
+    return amount >= 0 if part.is_pawl else amount == 0
+
+
+def is_turns(hall, value):
+    return (
+        isinstance(value, dict)
+        and set(value) == set(hall.wheels)
+        and all(is_fraction(one) for one in value.values())
+    )
+
+
+def is_motion(hall, value):
+    return is_turns(hall, value) and all(satisfied(part, value) for part in hall.parts)
+
+
+def work(load, turns):
+    return sum(number(load[name]) * number(turns[name]) for name in load if name in turns)
+
+
+def balances(hall, load, forces):
+    if not isinstance(forces, list) or len(forces) != len(hall.parts):
+        return False
+    if not all(is_fraction(force) for force in forces):
+        return False
+    left = {name: number(load.get(name, (0, 1))) for name in hall.wheels}
+    for part, force in zip(hall.parts, forces):
+        if part.is_pawl and number(force) < 0:
+            return False
+        for name, weight in part.weights.items():
+            left[name] += number(force) * weight
+    return not any(left.values())
+
+
+def drops(hall, load, motion):
+    return is_motion(hall, motion) and work(load, motion) > 0
+
+
+def verdict(hall, load, told):
+    """Whether told is right about a load, as [11] says."""
+    if not isinstance(told, tuple) or len(told) != 2:
+        return False
+    if told[0] == "drops":
+        return drops(hall, load, told[1])
+    return told[0] == "holds" and balances(hall, load, told[1])
+
+
+def bearing(hall, load, told):
+    """Whether told is right about a load, as [12] says."""
+    if not isinstance(told, tuple):
+        return False
+    if len(told) == 2:
+        return told[0] == "drops" and drops(hall, load, told[1])
+    if len(told) != 3 or told[0] != "holds":
+        return False
+    _, motion, forces = told
+    if not is_motion(hall, motion) or not balances(hall, load, forces):
+        return False
+    return work(load, motion) == 0 and all(
+        (sum_on(part, motion) > 0) != (number(force) > 0)
+        for part, force in zip(hall.parts, forces)
+        if part.is_pawl
+    )
+
+
+def added(load, wheel, value):
+    return {**load, wheel: written(number(load.get(wheel, (0, 1))) + value)}
+
+
+def is_end(hall, load, wheel, end, sign):
+    if isinstance(end, list):
+        return balances(hall, {wheel: (sign, 1)}, end)
+    if not isinstance(end, tuple) or len(end) != 2 or not is_fraction(end[0]):
+        return False
+    value, motion = end
+    return (
+        is_motion(hall, motion)
+        and number(motion[wheel]) == sign
+        and work(load, motion) == -sign * number(value)
+    )
+
+
+def held(hall, load, wheel, told):
+    """Whether told is right about a load and a wheel, as [13] says."""
+    if not isinstance(told, tuple):
+        return False
+    if len(told) == 2:
+        return told[0] == "never" and drops(hall, load, told[1]) and told[1][wheel] == (0, 1)
+    if len(told) != 4 or told[0] != "between":
+        return False
+    _, low, high, holding = told
+    if not is_end(hall, load, wheel, low, -1) or not is_end(hall, load, wheel, high, 1):
+        return False
+    values = [number(end[0]) for end in (low, high) if isinstance(end, tuple)] or [0]
+    return (
+        isinstance(holding, list)
+        and len(holding) == len(values)
+        and all(
+            balances(hall, added(load, wheel, value), forces)
+            for value, forces in zip(values, holding)
+        )
+    )
+
+
+def plain(value):
+    """Whether the value has only the types of Python itself, not classes below them."""
+    if type(value) in (list, tuple):
+        return all(plain(one) for one in value)
+    if type(value) is dict:
+        return all(plain(key) and plain(one) for key, one in value.items())
+    return value is None or type(value) in (int, str, bool)
+
+
+def holders(value):
+    """All lists and dictionaries in a value."""
+    if isinstance(value, dict):
+        return [value] + [one for item in value.values() for one in holders(item)]
+    if isinstance(value, (list, tuple)):
+        own = [value] if isinstance(value, list) else []
+        return own + [one for item in value for one in holders(item)]
+    return []
+
+
+def bent(value):
+    """Values that differ from this one a little, each in one place."""
+    if isinstance(value, bool) or value is None:
+        return
+    if isinstance(value, int):
+        yield from (value + 1, value - 1, -value, value == 1, str(value), None)
+    elif isinstance(value, str):
+        words = ("drops", "holds", "never", "between", "", value + "s", value.upper(), None)
+        yield from (word for word in words if word != value)
+    elif isinstance(value, tuple) and is_fraction(value):
+        top, bottom = value
+        yield from ((top + bottom, bottom), (top - bottom, bottom), (-top, bottom))
+        yield from ((2 * top, 2 * bottom), (top, -bottom), (top, 0), [top, bottom], (top,))
+        yield from ((top, bottom, 1), (bottom == 1, bottom), (top, bottom == 1), None, top)
+        yield (0, 1)
+    elif isinstance(value, (tuple, list)):
+        yield from bent_row(value)
+    elif isinstance(value, dict):
+        yield from bent_table(value)
+
+
+def bent_row(value):
+    kind = type(value)
+    rows = list(value)
+    yield (list if kind is tuple else tuple)(value)
+    yield None
+    yield kind(rows + [None])
+    yield kind(rows + [(0, 1)])
+    yield kind(rows[::-1])
+    for at, one in enumerate(rows):
+        yield kind(rows[:at] + rows[at + 1 :])
+        yield kind(rows[:at] + [one] + rows[at:])
+        for other in bent(one):
+            yield kind(rows[:at] + [other] + rows[at + 1 :])
+
+
+def bent_table(value):
+    yield None
+    yield list(value.items())
+    yield {**value, "zz": (0, 1)}
+    yield {**value, None: (0, 1)}
+    yield {name: (0, 1) for name in value}
+    for name in value:
+        yield {key: one for key, one in value.items() if key != name}
+        for other in bent(value[name]):
+            yield {**value, name: other}
