@@ -35,29 +35,32 @@ def without(row, steps):
     return row
 
 
-def eliminated(ties, pawls):
-    """Solve each tie for a wheel; return these steps and the pawls without these wheels.
+def eliminated(ties, pawls, wheels):
+    """Solve each tie for one of the wheels; return these steps, the ties left, and the pawls.
 
-    Both arguments are dictionaries from numbers of parts to rows. A step is a wheel and a
+    Ties and pawls are dictionaries from numbers of parts to rows. A step is a wheel and a
     tie in which it has a positive number; the wheels of earlier steps are not in the tie.
+    No tie that is left has any of the wheels, and no pawl has the wheels of the steps.
     """
-    steps = []
+    solvable = {name: True for name in wheels}
+    steps, left = [], {}
     while ties:
         # Short rows and rare wheels first: this keeps the rows short and the numbers small.
         _, number = min([(len(ties[key]), key) for key in ties])
-        step = _step_of(ties[number], ties, pawls)
+        step = _step_of(ties[number], ties, pawls, solvable)
+        if step is None:
+            left[number] = ties[number]
         ties = {key: ties[key] for key in ties if key != number}
-        # A tie that has lost all wheels follows from those before it.
         if step is not None:
             steps.append(step)
             ties = {key: without(ties[key], [step]) for key in ties}
             pawls = {key: without(pawls[key], [step]) for key in pawls}
-    return steps, pawls
+    return steps, left, pawls
 
 
-def _step_of(tie, ties, pawls):
+def _step_of(tie, ties, pawls, solvable):
     rows = [ties[key] for key in ties] + [pawls[key] for key in pawls]
-    choices = [(_many_with(key, rows), key) for key in tie if not isinstance(key, int)]
+    choices = [(_many_with(key, rows), key) for key in tie if key in solvable]
     if not choices:
         return None
     _, wheel = min(choices)

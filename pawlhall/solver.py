@@ -1,12 +1,17 @@
-"""The solver: whether a load drops and in which motion, or holds and by which forces."""
+"""The solver: whether a load drops and in which motion, or holds and by which forces.
+
+It also tells which parts follow from the others.
+"""
 
 from pawlhall.motions import home_after
 from pawlhall.numbers import fraction, product, total
 from pawlhall.rows import eliminated, without
-from pawlhall.ways import Ways
+from pawlhall.ways import Ways, negated
 
 # Stands in a row where numbers of parts stand, and is none of them.
 LOAD = -1
+# Stands in a row where names of wheels stand, and is none of them.
+TIE = "the sum of a tie"
 
 
 def solver_of(parts, wheels):
@@ -26,7 +31,7 @@ class Solver:
         others = {number: rows[number] for number in rows if pawls[number]}
         self._wheels = list(wheels)
         self._numbers = list(rows)
-        self._steps, self._pawls = eliminated(ties, others)
+        self._steps, self._tied, self._pawls = eliminated(ties, others, wheels)
         bound = [wheel for wheel, _ in self._steps]
         self._free = [name for name in wheels if name not in bound]
         self._ways = Ways(self._free, self._pawls)
@@ -39,6 +44,22 @@ class Solver:
         if word == "drops":
             return word, self._motion(found)
         return word, self._forces(row, found, fraction(1, row[LOAD] * many))
+
+    def follows(self, number):
+        """Whether all turns that satisfy the other parts satisfy the part of this number."""
+        if number in self._pawls:
+            others = {key: self._pawls[key] for key in self._pawls if key != number}
+            return _holds(Ways(self._free, others), negated(self._pawls[number]))
+        # A tie that is left has lost all wheels: the sums of its parts follow from each other.
+        if any([number in self._tied[key] for key in self._tied]):
+            return True
+        pawls = {}
+        for key in self._pawls:
+            # With the sum of this tie as one more wheel, that is what the pawl demands.
+            row = self._pawls[key]
+            pawls[key] = {**row, TIE: -row[number]} if number in row else row
+        ways = Ways([*self._free, TIE], pawls)
+        return _holds(ways, {TIE: 1}) and _holds(ways, {TIE: -1})
 
     def _motion(self, way):
         turns = {name: (way.get(name, 0), 1) for name in self._free}
@@ -59,6 +80,11 @@ class Solver:
                 amounts.append(product(found[pawl], (self._pawls[pawl].get(number, 0), 1)))
             forces.append(product(total(*amounts), unit))
         return forces
+
+
+def _holds(ways, load):
+    word, _ = ways.decide(load)
+    return word == "holds"
 
 
 def _row_of(load, many):

@@ -21,7 +21,7 @@ class Ways:
         self._loose = [{name: 1} for name in wheels]
         self._own = {}
         for number in pawls:
-            choices = [way for way in self._loose if _sum_on(way, pawls[number]) != 0]
+            choices = [way for way in self._loose if sum_on(way, pawls[number]) != 0]
             # A pawl that stops no loose way can only take over the own way of another one.
             if choices:
                 way = min(choices, key=len)
@@ -35,9 +35,9 @@ class Ways:
         numbers of pawls; those that it leaves out are 0.
         """
         for way in self._loose:
-            gain = _sum_on(way, load)
+            gain = sum_on(way, load)
             if gain != 0:
-                return "drops", (way if gain > 0 else _backward(way))
+                return "drops", (way if gain > 0 else negated(way))
         while True:
             number = self._first_gaining(load)
             if number is None:
@@ -53,20 +53,20 @@ class Ways:
 
     def _give(self, number, way):
         pawl = self._pawls[number]
-        own = way if _sum_on(way, pawl) > 0 else _backward(way)
-        self._loose = [_bent(other, own, pawl) for other in self._loose]
-        self._own = {key: _bent(self._own[key], own, pawl) for key in self._own}
+        own = way if sum_on(way, pawl) > 0 else negated(way)
+        self._loose = [bent(other, own, pawl) for other in self._loose]
+        self._own = {key: bent(self._own[key], own, pawl) for key in self._own}
         self._own[number] = own
 
     def _first_gaining(self, load):
         for number in sorted(self._own):
-            if _sum_on(self._own[number], load) > 0:
+            if sum_on(self._own[number], load) > 0:
                 return number
         return None
 
     def _first_stopping(self, way):
         for number in sorted(self._pawls):
-            if _sum_on(way, self._pawls[number]) < 0:
+            if sum_on(way, self._pawls[number]) < 0:
                 return number
         return None
 
@@ -74,21 +74,23 @@ class Ways:
         forces = {}
         for number in self._own:
             way = self._own[number]
-            gain = _sum_on(way, load)
+            gain = sum_on(way, load)
             if gain != 0:
-                forces[number] = fraction(-gain, _sum_on(way, self._pawls[number]))
+                forces[number] = fraction(-gain, sum_on(way, self._pawls[number]))
         return forces
 
 
-def _sum_on(way, row):
+def sum_on(way, row):
+    """Return the sum that the row speaks of, on a way."""
     return sum([way[name] * row[name] for name in way if name in row])
 
 
-def _backward(way):
+def negated(way):
+    """Return the way, or the row, with the other sign."""
     return {name: -way[name] for name in way}
 
 
-def _bent(way, own, pawl):
+def bent(way, own, pawl):
     """Return the way with as much of the own way as brings the sum of the pawl to 0."""
-    amount = _sum_on(way, pawl)
-    return mixed(way, _sum_on(own, pawl), own, amount) if amount != 0 else way
+    amount = sum_on(way, pawl)
+    return mixed(way, sum_on(own, pawl), own, amount) if amount != 0 else way

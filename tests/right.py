@@ -22,6 +22,9 @@ JUNK = [
     "holds",
     "between",
     "never",
+    "runs",
+    "stuck",
+    "unlike",
     (),
     (0, 1),
     (1, 1),
@@ -38,6 +41,17 @@ JUNK = [
     ("between", (), (), []),
     ("between", None, None, None),
     ("a", "b", "c", "d", "e"),
+    ("runs", None),
+    ("runs", {}),
+    ("stuck", {}, []),
+    ("stuck", None, None),
+    ("most", (0, 1), {}, {}, []),
+    ("most", 0, None, None, None),
+    ("endless", {}, {}),
+    ("endless", None, None),
+    ("unlike", 0, {}, {}, []),
+    ("unlike", None, None, None, None),
+    ("unlike", [], [], [], []),
     [],
     [0],
     [(0, 1)],
@@ -178,6 +192,66 @@ def held(hall, load, wheel, told):
     )
 
 
+def grants(hall, wishes, motion):
+    return is_motion(hall, motion) and all(motion[name] == wishes[name] for name in wishes)
+
+
+def is_load(load, wheels):
+    """Whether load is a dictionary from some of these wheels to fractions."""
+    if not isinstance(load, dict) or not set(load) <= set(wheels):
+        return False
+    return all(is_fraction(value) for value in load.values())
+
+
+def stuck(hall, wishes, told):
+    if len(told) != 3 or told[0] != "stuck" or not is_load(told[1], wishes):
+        return False
+    return work(told[1], wishes) > 0 and balances(hall, told[1], told[2])
+
+
+def driven(hall, wishes, told):
+    """Whether told is right about wishes, as [21] says."""
+    if not isinstance(told, tuple):
+        return False
+    if len(told) == 2:
+        return told[0] == "runs" and grants(hall, wishes, told[1])
+    return stuck(hall, wishes, told)
+
+
+def most(hall, wishes, wheel, told, sign=1):
+    """Whether told is right about wishes and a wheel, as [22] says; sign is -1 for backward."""
+    if not isinstance(told, tuple):
+        return False
+    if len(told) == 3 and told[0] == "endless":
+        _, motion, way = told
+        return (
+            grants(hall, wishes, motion)
+            and is_motion(hall, way)
+            and all(way[name] == (0, 1) for name in wishes)
+            and sign * way[wheel][0] > 0
+        )
+    if len(told) != 5 or told[0] != "most":
+        return stuck(hall, wishes, told)
+    _, value, motion, load, forces = told
+    if not is_fraction(value) or not grants(hall, wishes, motion) or not is_load(load, wishes):
+        return False
+    if number(motion[wheel]) != sign * number(value) or work(load, wishes) != number(value):
+        return False
+    less = {name: written(-number(torque)) for name, torque in load.items()}
+    return balances(hall, added(less, wheel, sign), forces)
+
+
+def unlike(one, other, outer, told):
+    """Whether told is right about two halls that differ, as [18] says."""
+    if not isinstance(told, tuple) or len(told) != 5 or told[0] != "unlike":
+        return False
+    _, which, motion, load, forces = told
+    if type(which) is not int or which not in (0, 1) or not is_load(load, outer):
+        return False
+    mover, holder = (one, other) if which == 0 else (other, one)
+    return drops(mover, load, motion) and balances(holder, load, forces)
+
+
 def plain(value):
     """Whether the value has only the types of Python itself, not classes below them."""
     if type(value) in (list, tuple):
@@ -204,7 +278,8 @@ def bent(value):
     if isinstance(value, int):
         yield from (value + 1, value - 1, -value, value == 1, str(value), None)
     elif isinstance(value, str):
-        words = ("drops", "holds", "never", "between", "", value + "s", value.upper(), None)
+        words = ("drops", "holds", "never", "between", "runs", "stuck", "most", "endless")
+        words += ("unlike", "alike", "", value + "s", value.upper(), None)
         yield from (word for word in words if word != value)
     elif isinstance(value, tuple) and is_fraction(value):
         top, bottom = value

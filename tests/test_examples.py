@@ -3,10 +3,13 @@
 import unittest
 
 from pawlhall.errors import NoFraction, NoText, Twice
+from pawlhall.forms import Form, alike, least_form
 from pawlhall.halls import Hall
 from pawlhall.loads import bearing, held_by, verdict
 from pawlhall.numbers import fraction, total
 from pawlhall.parts import Chain, Differential, Part, Ratchet
+from pawlhall.wheels import freedom, idle, ratio, seen_from, state_of
+from pawlhall.wishes import driven, most, settled
 
 
 class ExamplesTest(unittest.TestCase):
@@ -38,6 +41,35 @@ class ExamplesTest(unittest.TestCase):
         self.assertEqual(bearing(pawls, {"a": (-1, 1)})[0], "holds")
         self.assertEqual(held_by(mesh, {"a": (1, 1)}, "b")[0], "between")
         self.assertEqual(held_by(Hall("a", "b"), {"a": (1, 1)}, "b")[0], "never")
+
+    def test_wheels(self):
+        self.assertEqual(state_of(Hall.read("wheels a; ratchet a"), "a"), "forward")
+        self.assertEqual(ratio(Hall.read("wheels a b; mesh a b 1 2"), "a", "b"), (-1, 2))
+        self.assertEqual(freedom(Hall.read("wheels a b c; differential a b c 1 1")), 2)
+        self.assertEqual(idle(Hall.read("wheels a b; freewheel a b; brake b; ratchet a")), [0, 2])
+        self.assertEqual(seen_from(Hall.read("wheels a; brake a"), "a", "o").wheels, ("a", "o"))
+
+    def test_forms(self):
+        chains = Hall.read("wheels a b c; chain a b 2 1; chain b c 3 1")
+        self.assertEqual(least_form(chains, ("a", "c")).text, "form a c; tie 6 -1")
+        freewheels = Hall.read("wheels a b c; freewheel a b; freewheel b c")
+        self.assertEqual(least_form(freewheels, ("a", "c")).text, "form a c; pawl 1 -1")
+        both = Hall.read("wheels a b; freewheel a b; freewheel b a")
+        self.assertEqual(least_form(both).text, "form a b; tie 1 -1")
+        with self.assertRaises(NoText):
+            Form.read("form a b; tie 2 -2")
+        self.assertEqual(alike(Hall.read("wheels a; ratchet a"), Hall("a"))[:2], ("unlike", 1))
+
+    def test_wishes(self):
+        mesh, pawl = Hall.read("wheels a b; mesh a b 1 2"), Hall.read("wheels a; ratchet a")
+        freewheel = Hall.read("wheels a b; freewheel a b")
+        motion = {"a": (1, 1), "b": (-1, 2)}
+        self.assertEqual(driven(mesh, {"a": (1, 1)}), ("runs", motion))
+        self.assertEqual(driven(pawl, {"a": (-1, 1)})[0], "stuck")
+        self.assertEqual(most(freewheel, {"a": (1, 1)}, "b")[:2], ("most", (1, 1)))
+        self.assertEqual(most(freewheel, {"a": (1, 1)}, "b", backward=True)[0], "endless")
+        chain = Hall.read("wheels a b c; chain a b 1 1")
+        self.assertEqual(settled(chain, {"a": (2, 1)}), {"a": (2, 1), "b": (2, 1)})
 
 
 if __name__ == "__main__":
