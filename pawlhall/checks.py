@@ -1,8 +1,11 @@
-"""What counts as an integer, a fraction, a name and amounts of wheels, for values of any kind."""
+"""What counts as an integer, a fraction, a name and amounts of wheels, for values of any kind.
+
+And how texts of halls, boxes and forms are taken apart.
+"""
 
 from math import gcd
 
-from pawlhall.errors import NoName, NoWheel, Twice
+from pawlhall.errors import NoName, NoText, NoWheel, Twice
 
 
 def is_int(value):
@@ -51,3 +54,12 @@ def check_wheels(names, wheels):
     for name in names:
         if name not in wheels:
             raise NoWheel(name)
+
+
+def split_text(text):
+    """Return the names behind the first word, and the items behind them; raise NoText."""
+    if not isinstance(text, str):
+        raise NoText(text)
+    first, *items = text.split("; ")
+    _, *names = first.split(" ")
+    return names, items

@@ -6,7 +6,7 @@ left out.
 
 from math import gcd, lcm
 
-from pawlhall.rows import eliminated, shortened, without
+from pawlhall.rows import eliminated, shortened, summed, without
 from pawlhall.ways import Ways, bent, negated, sum_on
 
 
@@ -54,7 +54,7 @@ def smallest(wheels, ties, pawls):
 def shadow(hidden, ties, pawls):
     """Return ties and pawls without the hidden wheels that allow the others the same turns."""
     ties, pawls, left = _without_bound(hidden, ties, pawls)
-    return ties, _summed(pawls, left) if left else pawls
+    return ties, _pawls_without(left, pawls) if left else pawls
 
 
 def held(wheels, hidden, ties, pawls):
@@ -195,7 +195,7 @@ def _needed(pawls):
     return list(needed.values())
 
 
-def _summed(pawls, hidden):
+def _pawls_without(hidden, pawls):
     """Return the sums of multiples of pawls in which no hidden wheel is left."""
     # How often each pawl goes in: for each hidden wheel the multiples cancel out.
     names = [str(number) for number in range(len(pawls))]
@@ -203,15 +203,7 @@ def _summed(pawls, hidden):
     for wheel in hidden:
         ties.append({name: pawl[wheel] for name, pawl in zip(names, pawls) if wheel in pawl})
     _, rays = generators(names, ties, [{name: 1} for name in names])
-    return [_sum_of(pawls, [ray.get(name, 0) for name in names]) for ray in rays]
-
-
-def _sum_of(pawls, amounts):
-    row = {}
-    for pawl, amount in zip(pawls, amounts):
-        for name in pawl:
-            row[name] = row.get(name, 0) + amount * pawl[name]
-    return shortened(row)
+    return [summed(pawls, [ray.get(name, 0) for name in names]) for ray in rays]
 
 
 def _among(wheels, way):

@@ -1,6 +1,7 @@
 """Smallest forms: what halls allow their outer wheels, each written in one way only."""
 
-from pawlhall.checks import check_distinct, check_names, check_wheels, is_amounts, is_fraction, is_int
+from pawlhall.checks import check_distinct, check_names, check_wheels, is_amounts, is_fraction
+from pawlhall.checks import is_int, split_text
 from pawlhall.cones import held, rows_of, shadow, smallest
 from pawlhall.errors import NoName, NoPart, NoText, NoTurns, Twice
 from pawlhall.halls import Hall
@@ -24,10 +25,7 @@ class Form:
     @classmethod
     def read(cls, text):
         """Return the form with that text; raise NoText if there is none."""
-        if not isinstance(text, str):
-            raise NoText(text)
-        first, *items = text.split("; ")
-        _, *names = first.split(" ")
+        names, items = split_text(text)
         try:
             check_names(names)
             check_distinct(names)

@@ -1,6 +1,6 @@
 """Halls: wheels and the parts that tie them."""
 
-from pawlhall.checks import check_distinct, check_names, check_wheels, is_int
+from pawlhall.checks import check_distinct, check_names, check_wheels, is_int, split_text
 from pawlhall.errors import NoName, NoPart, NoText, NoWheel, Twice
 from pawlhall.parts import Part
 
@@ -20,19 +20,8 @@ class Hall:
     @classmethod
     def read(cls, text):
         """Return the hall with that text; raise NoText if there is none."""
-        if not isinstance(text, str):
-            raise NoText(text)
-        first, *items = text.split("; ")
-        _, *names = first.split(" ")
-        try:
-            hall = cls(*names)
-            for item in items:
-                hall.put(Part.read(item))
-        except (NoName, Twice, NoText, NoWheel):
-            raise NoText(text) from None
-        # Comparing the texts also refuses a first word other than "wheels".
-        if hall.text != text:
-            raise NoText(text)
+        hall = cls()
+        fill(hall, text)
         return hall
 
     @property
@@ -48,8 +37,7 @@ class Hall:
     @property
     def text(self):
         """The written form."""
-        wheels = " ".join(["wheels", *self._wheels])
-        return "; ".join([wheels, *[part.text for part in self._parts]])
+        return written(["wheels", *self._wheels], self._parts)
 
     def add_wheel(self, name):
         """Add a wheel."""
@@ -96,6 +84,9 @@ class Hall:
                 texts.append(self.text)
         return texts
 
+    def _add_item(self, item):
+        self.put(Part.read(item))
+
     def _play(self, step):
         kind, value = step
         if kind == "put":
@@ -110,6 +101,26 @@ class Hall:
 
     def __len__(self):
         return len(self._parts)
+
+
+def fill(hall, text):
+    """Give a new hall, or a new box, what the text says; raise NoText if it is the text of none."""
+    names, items = split_text(text)
+    try:
+        for name in names:
+            hall.add_wheel(name)
+        for item in items:
+            hall._add_item(item)
+    except (NoName, Twice, NoText, NoWheel):
+        raise NoText(text) from None
+    # Comparing the texts also refuses a first word other than "wheels".
+    if hall.text != text:
+        raise NoText(text)
+
+
+def written(words, parts):
+    """Return the text of an item of these words and of the parts behind it."""
+    return "; ".join([" ".join(words), *[part.text for part in parts]])
 
 
 class Trial:

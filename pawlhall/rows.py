@@ -27,6 +27,15 @@ def mixed(row, times, other, amount):
     return shortened(numbers)
 
 
+def summed(rows, amounts):
+    """Return the sum of the rows, each as often as its amount says, shortened."""
+    numbers = {}
+    for row, amount in zip(rows, amounts):
+        for key in row:
+            numbers[key] = numbers.get(key, 0) + amount * row[key]
+    return shortened(numbers)
+
+
 def without(row, steps):
     """Return a positive multiple of the row, plus sums of ties, without the wheels of the steps."""
     for wheel, tie in steps:

@@ -13,7 +13,7 @@ ONE = "1"
 
 def driven(hall, wishes):
     """Return ("runs", motion) or ("stuck", load, forces)."""
-    _check_wishes(hall, wishes)
+    check_wishes(hall, wishes)
     word, found = _solver_of(hall, wishes).decide({ONE: (1, 1)})
     if word == "holds":
         return _stuck(hall, wishes, found)
@@ -22,7 +22,7 @@ def driven(hall, wishes):
 
 def drives(hall, wishes, told):
     """Whether told is a right answer of driven."""
-    _check_wishes(hall, wishes)
+    check_wishes(hall, wishes)
     if not isinstance(told, tuple) or len(told) not in (2, 3):
         return False
     if len(told) == 3:
@@ -33,7 +33,7 @@ def drives(hall, wishes, told):
 
 def most(hall, wishes, wheel, *, backward=False):
     """Return ("most", value, motion, load, forces), or ("endless", motion, way), or as driven."""
-    _check_wishes(hall, wishes)
+    check_wishes(hall, wishes)
     check_wheels([wheel], hall.wheels)
     sign = -1 if backward else 1
     solver = _solver_of(hall, wishes)
@@ -55,7 +55,7 @@ def most(hall, wishes, wheel, *, backward=False):
 
 def most_shown(hall, wishes, wheel, told, *, backward=False):
     """Whether told is a right answer of most."""
-    _check_wishes(hall, wishes)
+    check_wishes(hall, wishes)
     check_wheels([wheel], hall.wheels)
     if not isinstance(told, tuple) or len(told) not in (3, 5):
         return False
@@ -67,7 +67,7 @@ def most_shown(hall, wishes, wheel, told, *, backward=False):
 
 def settled(hall, wishes):
     """Return the turns that are the same in all motions that grant the wishes, None if none does."""
-    _check_wishes(hall, wishes)
+    check_wishes(hall, wishes)
     solver = _solver_of(hall, wishes)
     word, found = solver.decide({ONE: (1, 1)})
     if word == "holds":
@@ -76,9 +76,17 @@ def settled(hall, wishes):
     return {name: motion[name] for name in motion if _is_settled(solver, name, motion[name])}
 
 
-def _check_wishes(hall, wishes):
+def check_wishes(hall, wishes):
+    """Raise NoWishes if the value, which may be anything, is no wishes of the hall."""
     if not is_amounts(wishes, hall.wheels):
         raise NoWishes(wishes)
+
+
+def wish_row(names, wish):
+    """Return the row of the tie that the turns of these names have the wish as their sum."""
+    top, bottom = wish
+    row = {name: bottom for name in names}
+    return {**row, ONE: -top} if top != 0 else row
 
 
 def _solver_of(hall, wishes):
@@ -91,8 +99,7 @@ def _solver_of(hall, wishes):
     pawls = [part.is_pawl for part in parts]
     for name in wheels:
         if name in wishes:
-            top, bottom = wishes[name]
-            rows.append({name: bottom, ONE: -top} if top != 0 else {name: 1})
+            rows.append(wish_row([name], wishes[name]))
             pawls.append(False)
     return Solver([*wheels, ONE], [*rows, {ONE: 1}], [*pawls, True])
 

@@ -2,6 +2,7 @@
 
 from fractions import Fraction
 
+from pawlhall.boxes import Box
 from pawlhall.halls import Hall
 from pawlhall.parts import Brake, Chain, Differential, Freewheel, Mesh, Ratchet
 from right import number, written
@@ -74,3 +75,20 @@ def held_load(draw, drawn, size=3, bottoms=3):
 
 def times(values, factor):
     return {name: written(number(value) * factor) for name, value in values.items()}
+
+
+def box(draw, wheels=4, parts=4, levers=3):
+    """A box of at most that many wheels, parts and positions, with at most 3 pawls in each."""
+    drawn = Box(*names(draw.randint(1, wheels)))
+    pawls = draw.randint(0, 1)
+    for _ in range(draw.randint(0, parts - pawls)):
+        drawn.put(tie(draw, drawn.wheels, 4))
+    for _ in range(pawls):
+        drawn.put(pawl(draw, drawn.wheels))
+    for name in draw.sample(["low", "high", "mid", "one", "two"], draw.randint(0, levers)):
+        kinds = draw.choices(["tie", "pawl"], k=draw.randint(0, 2))
+        drawn.lever(name, *[
+            tie(draw, drawn.wheels, 4) if kind == "tie" else pawl(draw, drawn.wheels)
+            for kind in kinds
+        ])
+    return drawn

@@ -25,6 +25,7 @@ JUNK = [
     "runs",
     "stuck",
     "unlike",
+    "reached",
     (),
     (0, 1),
     (1, 1),
@@ -49,6 +50,13 @@ JUNK = [
     ("most", 0, None, None, None),
     ("endless", {}, {}),
     ("endless", None, None),
+    ("reached", None),
+    ("reached", {}),
+    ("reached", []),
+    ("reached", {None: {}}),
+    ("reached", {"": {}}),
+    ("never", {}, {}),
+    ("never", None, None),
     ("unlike", 0, {}, {}, []),
     ("unlike", None, None, None, None),
     ("unlike", [], [], [], []),
@@ -252,6 +260,58 @@ def unlike(one, other, outer, told):
     return drops(mover, load, motion) and balances(holder, load, forces)
 
 
+def reached(box, wishes, told):
+    """Whether told is right about a box and wishes, as [24] says; at() is asked for the halls."""
+    if not isinstance(told, tuple):
+        return False
+    if len(told) == 2 and told[0] == "reached":
+        plan = told[1]
+        if not isinstance(plan, dict) or not set(plan) <= set(box.levers):
+            return False
+        if not all(is_motion(box.at(lever), motion) for lever, motion in plan.items()):
+            return False
+        sums = {name: sum(number(motion[name]) for motion in plan.values()) for name in wishes}
+        return all(sums[name] == number(wishes[name]) for name in wishes)
+    if len(told) != 3 or told[0] != "never":
+        return False
+    _, load, forces = told
+    if not is_load(load, wishes) or work(load, wishes) <= 0:
+        return False
+    if not isinstance(forces, dict) or set(forces) != set(box.levers):
+        return False
+    return all(balances(box.at(lever), load, row) for lever, row in forces.items())
+
+
+def profile(hall, turns):
+    """The places of [27]: the turns in the order of the wheels, and the sums of the pawls."""
+    pawls = [sum_on(part, turns) for part in hall.parts if part.is_pawl]
+    return [number(turns[name]) for name in hall.wheels] + pawls
+
+
+def parted(hall, turns, told, known):
+    """Whether told is right about a motion, as [28] says; known are the elementary motions."""
+    if not isinstance(told, list):
+        return False
+    whole, motions = profile(hall, turns), []
+    for share in told:
+        if not isinstance(share, tuple) or len(share) != 2:
+            return False
+        factor, motion = share
+        if not is_fraction(factor) or factor[0] <= 0 or not is_motion(hall, motion):
+            return False
+        if motion not in known or motion in motions:
+            return False
+        if any(one * two < 0 or (one and not two) for one, two in zip(profile(hall, motion), whole)):
+            return False
+        motions.append(motion)
+    sums = [
+        sum(number(factor) * number(motion[name]) for factor, motion in told)
+        for name in hall.wheels
+    ]
+    many = sum(1 for place in whole if place)
+    return sums == [number(turns[name]) for name in hall.wheels] and len(told) <= many
+
+
 def plain(value):
     """Whether the value has only the types of Python itself, not classes below them."""
     if type(value) in (list, tuple):
@@ -279,7 +339,7 @@ def bent(value):
         yield from (value + 1, value - 1, -value, value == 1, str(value), None)
     elif isinstance(value, str):
         words = ("drops", "holds", "never", "between", "runs", "stuck", "most", "endless")
-        words += ("unlike", "alike", "", value + "s", value.upper(), None)
+        words += ("unlike", "alike", "reached", "", value + "s", value.upper(), None)
         yield from (word for word in words if word != value)
     elif isinstance(value, tuple) and is_fraction(value):
         top, bottom = value

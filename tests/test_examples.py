@@ -1,13 +1,17 @@
-"""The section "Examples" of the document, as far as it speaks of what is here."""
+"""The section "Examples" of the document."""
 
 import unittest
 
-from pawlhall.errors import NoFraction, NoText, Twice
+from pawlhall.boxes import Box, fewest
+from pawlhall.drives import Drive
+from pawlhall.elementary import elementary, parted
+from pawlhall.errors import Loose, NoFraction, NoText, Twice
 from pawlhall.forms import Form, alike, least_form
 from pawlhall.halls import Hall
 from pawlhall.loads import bearing, held_by, verdict
 from pawlhall.numbers import fraction, total
 from pawlhall.parts import Chain, Differential, Part, Ratchet
+from pawlhall.texts import read_turns, turns_text
 from pawlhall.wheels import freedom, idle, ratio, seen_from, state_of
 from pawlhall.wishes import driven, most, settled
 
@@ -70,6 +74,32 @@ class ExamplesTest(unittest.TestCase):
         self.assertEqual(most(freewheel, {"a": (1, 1)}, "b", backward=True)[0], "endless")
         chain = Hall.read("wheels a b c; chain a b 1 1")
         self.assertEqual(settled(chain, {"a": (2, 1)}), {"a": (2, 1), "b": (2, 1)})
+
+    def test_boxes(self):
+        box = Box.read("wheels a b; lever low; brake b; lever high; brake a")
+        plan = {"low": {"a": (1, 1), "b": (0, 1)}}
+        self.assertEqual(fewest(box, {"a": (1, 1)}), ("reached", plan))
+
+    def test_drives(self):
+        drive = Drive(Hall.read("wheels a b; mesh a b 1 2"))
+        self.assertEqual(drive.turn({"b": (1, 1)}), {"a": (-2, 1), "b": (1, 1)})
+        with self.assertRaises(Loose) as caught:
+            Drive(Hall("a", "b")).turn({"a": (1, 1)})
+        self.assertEqual(caught.exception.names, ("b",))
+
+    def test_elementary(self):
+        self.assertEqual([turns["a"] for turns in elementary(Hall("a"))], [(-1, 1), (1, 1)])
+        hall = Hall.read("wheels a b; freewheel a b; ratchet b")
+        told = [
+            ((1, 1), {"a": (1, 1), "b": (1, 1)}),
+            ((2, 1), {"a": (1, 1), "b": (0, 1)}),
+        ]
+        self.assertEqual(sorted(parted(hall, {"a": (3, 1), "b": (1, 1)})), told)
+
+    def test_texts(self):
+        self.assertEqual(turns_text({"a": (1, 1), "b": (-2, 3)}), "a=1, b=-2/3")
+        with self.assertRaises(NoText):
+            read_turns("a=1, a=2")
 
 
 if __name__ == "__main__":

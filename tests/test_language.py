@@ -36,7 +36,7 @@ STATEMENTS = (
 
 ONCE = set("zip enumerate reversed range items keys values".split())
 
-ITERATING = set("list tuple dict sorted sum any all enumerate zip min max".split())
+ITERATING = set("list tuple dict sorted sum any all enumerate zip min max combinations".split())
 
 NOWHERE = set(
     "register mro elements open input law version_info with_traceback add_note"
