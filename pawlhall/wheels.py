@@ -1,8 +1,7 @@
 """Wheels: how they can turn, which parts are needed, and what a hall looks like from a wheel."""
 
-from pawlhall.checks import check_names, check_wheels
+from pawlhall.checks import check_wheels
 from pawlhall.cones import bounds, rows_of
-from pawlhall.errors import Twice
 from pawlhall.halls import Hall
 from pawlhall.numbers import fraction, product, total
 from pawlhall.parts import Brake, Chain, Differential, Freewheel, Mesh, Ratchet
@@ -57,10 +56,8 @@ def seen_from(hall, wheel, floor):
     """Return the hall as it looks to somebody who sits on the wheel, with the floor as a wheel."""
     wheels = hall.wheels
     check_wheels([wheel], wheels)
-    check_names([floor])
-    if floor in wheels:
-        raise Twice(floor)
     seen = Hall(*wheels)
+    # This raises NoName and Twice, too.
     seen.add_wheel(floor)
     for part in hall.parts:
         seen.put(_seen(part, str(floor)))

@@ -370,18 +370,26 @@ class PartedShownTest(PartedCase):
 
     def test_more_motions_than_places(self):
         # A cube: t is ahead of x, y and z, so all eight corners are elementary, but the whole
-        # has only seven places, four turns and three sums of pawls.
-        hall = Hall.read("wheels t x y z; freewheel t x; freewheel t y; freewheel t z")
+        # has only seven places, four turns and three sums of pawls, beside the wheel that rests.
+        hall = Hall.read(
+            "wheels s t x y z; freewheel t x; freewheel t y; freewheel t z; brake s"
+        )
         corners = [
-            {"t": ONE, "x": (x, 1), "y": (y, 1), "z": (z, 1)} for x, y, z in product((0, 1), repeat=3)
+            {"s": ZERO, "t": ONE, "x": (x, 1), "y": (y, 1), "z": (z, 1)}
+            for x, y, z in product((0, 1), repeat=3)
         ]
         known = list(elementary(hall))
         for corner in corners:
             self.assertIn(corner, known)
         told = [(ONE, corner) for corner in corners]
-        turns = {"t": (8, 1), "x": (4, 1), "y": (4, 1), "z": (4, 1)}
+        turns = {"s": ZERO, "t": (8, 1), "x": (4, 1), "y": (4, 1), "z": (4, 1)}
         self.assertIs(parted_shown(hall, turns, told), False)
         self.assertLessEqual(len(parted(hall, turns)), 7)
+        # A factor of 0 adds nothing, but is no positive one.
+        ends = [told[0], told[-1]]
+        turns_of_ends = {"s": ZERO, "t": TWO, "x": ONE, "y": ONE, "z": ONE}
+        self.assertIs(parted_shown(hall, turns_of_ends, ends), True)
+        self.assertIs(parted_shown(hall, turns_of_ends, [*ends, (ZERO, corners[1])]), False)
         # Without any one of them there are not too many.
         for at, (_, corner) in enumerate(told):
             less = {name: right.written(right.number(turns[name]) - corner[name][0]) for name in turns}

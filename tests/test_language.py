@@ -209,6 +209,60 @@ class CodeTest(unittest.TestCase):
                     self.assertIsInstance(row, ast.Assign, place)
                     self.assertIsInstance(row.value, ast.Attribute, place)
 
+    def test_names_are_imported_from_where_they_are_defined(self):
+        defined = {}
+        for name, tree in trees():
+            names = {node.name for node in tree.body if hasattr(node, "name")}
+            for node in tree.body:
+                if isinstance(node, ast.Assign):
+                    names |= {target.id for target in node.targets}
+            defined["pawlhall." + name[:-3]] = names
+        for place, node in nodes(ast.ImportFrom):
+            if node.module in defined:
+                self.assertLessEqual({one.name for one in node.names}, defined[node.module], place)
+
+    def test_attributes_are_assigned_through_a_local_name(self):
+        for place, node in nodes(ast.Attribute):
+            if isinstance(node.ctx, ast.Store):
+                self.assertIsInstance(node.value, ast.Name, place)
+
+    def test_classes_are_not_stored_or_passed_on(self):
+        classes = {node.name for place, node in nodes(ast.ClassDef)}
+        for name, tree in trees():
+            good = set()
+            for node in ast.walk(tree):
+                if isinstance(node, ast.Call):
+                    good.add(node.func)
+                    if getattr(node.func, "id", "") == "isinstance":
+                        good.add(node.args[1])
+                if isinstance(node, ast.ClassDef):
+                    good |= set(node.bases)
+                if isinstance(node, ast.ExceptHandler):
+                    good |= {node.type, *getattr(node.type, "elts", [])}
+                if isinstance(node, ast.Attribute):
+                    good.add(node.value)
+            for node in ast.walk(tree):
+                if isinstance(node, ast.Name) and node.id in classes:
+                    self.assertIn(node, good, (name, node.lineno))
+
+    def test_generators_are_iterated_at_once(self):
+        makers = set()
+        for place, node in nodes(ast.FunctionDef):
+            if any(isinstance(one, (ast.Yield, ast.YieldFrom)) for one in ast.walk(node)):
+                makers.add(node.name)
+        self.assertEqual(makers, {"elementary", "steps"})
+        for name, tree in trees():
+            good = set()
+            for node in ast.walk(tree):
+                if isinstance(node, (ast.For, ast.comprehension)):
+                    good.add(node.iter)
+                if isinstance(node, ast.Call) and getattr(node.func, "id", "") in ITERATING:
+                    good |= set(node.args)
+            for node in ast.walk(tree):
+                if isinstance(node, ast.Call):
+                    called = getattr(node.func, "id", getattr(node.func, "attr", ""))
+                    self.assertTrue(called not in makers or node in good, (name, node.lineno))
+
     def test_no_name_is_a_method_and_an_attribute(self):
         methods, attributes = set(), set()
         for place, node in nodes(ast.ClassDef):
